@@ -7,6 +7,7 @@ import (
 	"arbour/api"
 	"arbour/diagram"
 	"arbour/dnf"
+	"arbour/pieces"
 )
 
 // P10.1, P10.2
@@ -49,8 +50,8 @@ func TestDiagramsThatAreNoNodes(t *testing.T) {
 			t.Errorf("%d, not %d", c.got, c.want)
 		}
 	}
-	for row := range allRows {
-		if e := eventOf(row); s.Has(0, e) || !s.Has(1, e) {
+	for row := range pieces.Rows {
+		if e := pieces.Event(row); s.Has(0, e) || !s.Has(1, e) {
 			t.Fatalf("Has(0, %v): %v, Has(1, ..): %v", e, s.Has(0, e), s.Has(1, e))
 		}
 	}
@@ -145,27 +146,18 @@ func TestOfAFilterWhoseBoxesCutACell(t *testing.T) {
 		if got := s.Of(api.Filter{with(attr, ints(r(1, 2))), with(attr, ints(r(3, 5)))}); got != 0 {
 			t.Errorf("1 to 2, and 3 to 5: the diagram %d", got)
 		}
-		s = diagram.New(append(apart(4), whole...))
+		s = diagram.New(append(pieces.Apart(4), whole...))
 		for at := range 4 {
-			f := apart(4)
+			f := pieces.Apart(4)
 			f[at] = with(attr, ints(r(3, 5)))
 			if got := s.Of(f); got != 0 || s.Nodes() != 0 {
 				t.Errorf("the box %d cuts: the diagram %d, %d nodes", at, got, s.Nodes())
 			}
 		}
-		if got := s.Of(apart(4)); got == 0 {
+		if got := s.Of(pieces.Apart(4)); got == 0 {
 			t.Error("no set cuts a cell, and the diagram is 0")
 		}
 	}
-}
-
-// apart answers n boxes, none of which lies in another one.
-func apart(n int) api.Filter {
-	var f api.Filter
-	for i := range n {
-		f = append(f, with(i%api.Attrs, ints(r(i+20, i+20))))
-	}
-	return f
 }
 
 // P10.1: the grid is that of all filters, whether right or not; of sets that aren't right it has nothing.
@@ -188,7 +180,7 @@ func TestGridOfWrongFilters(t *testing.T) {
 
 // P10.3: the greatest size of a filter is reached.
 func TestSizeOfFullFilter(t *testing.T) {
-	f := fullFilter()
+	f := pieces.Full(0)
 	s := diagram.New(f)
 	a := s.Of(f)
 	if got := s.Size(a); got != api.Beta || s.Nodes() != 46 || a != 47 {
@@ -206,16 +198,7 @@ func TestSizeOfFullFilter(t *testing.T) {
 
 // P10.2: all ways that meet are gone on together, however many cells there are.
 func TestWaysThatMeet(t *testing.T) {
-	f := fullFilter()
-	g := fullFilter()
-	for at := range g {
-		for attr := range g[at] {
-			for i := range g[at][attr].Ints {
-				g[at][attr].Ints[i].Lo += 100
-				g[at][attr].Ints[i].Hi += 100
-			}
-		}
-	}
+	f, g := pieces.Full(0), pieces.Full(100)
 	s := diagram.New(f, g)
 	made := testing.AllocsPerRun(1, func() {
 		a, b := s.Of(f), s.Of(g)

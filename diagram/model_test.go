@@ -6,6 +6,7 @@ import (
 	"arbour/api"
 	"arbour/diagram"
 	"arbour/dnf"
+	"arbour/pieces"
 )
 
 // model holds a space against the tables of the diagrams that it was asked for.
@@ -23,12 +24,12 @@ func newModel(t *testing.T, lists ...[]masks) *model {
 	m := &model{t: t, tables: map[int]table{}, numbers: map[table]int{}, nodes: map[string]int{}}
 	var filters []api.Filter
 	for _, list := range lists {
-		filters = append(filters, filterOf(list))
+		filters = append(filters, pieces.Filter(list))
 		m.grid = append(m.grid, list...)
 	}
 	m.space = diagram.New(filters...)
-	m.check(m.space.Not(1), tableOf(func(int) bool { return false }))
-	m.check(m.space.Not(0), tableOf(func(int) bool { return true }))
+	m.check(m.space.Not(1), pieces.TableOf(func(int) bool { return false }))
+	m.check(m.space.Not(0), pieces.TableOf(func(int) bool { return true }))
 	return m
 }
 
@@ -37,7 +38,7 @@ func (m *model) check(a int, want table) int {
 	m.t.Helper()
 	m.asked++
 	before := len(m.nodes)
-	nodes := want.nodes()
+	nodes := want.Nodes()
 	for _, n := range nodes {
 		m.nodes[n]++
 	}
@@ -69,8 +70,8 @@ func (m *model) checkNumber(a int, want table) {
 		return
 	}
 	m.tables[a], m.numbers[want] = want, a
-	for row := range allRows {
-		if e := eventOf(row); m.space.Has(a, e) != (want[row] == '1') {
+	for row := range pieces.Rows {
+		if e := pieces.Event(row); m.space.Has(a, e) != (want[row] == '1') {
 			m.t.Fatalf("Has(%d, %v): not %c", a, e, want[row])
 		}
 	}
@@ -78,7 +79,7 @@ func (m *model) checkNumber(a int, want table) {
 
 func (m *model) of(list []masks) int {
 	m.t.Helper()
-	f := filterOf(list)
+	f := pieces.Filter(list)
 	if !dnf.Right(f) {
 		m.t.Fatalf("%v: not right", f)
 	}
@@ -86,7 +87,7 @@ func (m *model) of(list []masks) int {
 	if cuts(list, m.grid) {
 		list = nil
 	}
-	if m.check(a, tableOfFilter(list)); m.space.Size(a) > api.Beta {
+	if m.check(a, pieces.TableOfFilter(list)); m.space.Size(a) > api.Beta {
 		m.t.Fatalf("%v: a size of %d", f, m.space.Size(a))
 	}
 	return a
@@ -94,17 +95,17 @@ func (m *model) of(list []masks) int {
 
 func (m *model) and(a, b int) int {
 	m.t.Helper()
-	return m.check(m.space.And(a, b), m.tables[a].and(m.tables[b]))
+	return m.check(m.space.And(a, b), m.tables[a].And(m.tables[b]))
 }
 
 func (m *model) or(a, b int) int {
 	m.t.Helper()
-	return m.check(m.space.Or(a, b), m.tables[a].or(m.tables[b]))
+	return m.check(m.space.Or(a, b), m.tables[a].Or(m.tables[b]))
 }
 
 func (m *model) not(a int) int {
 	m.t.Helper()
-	return m.check(m.space.Not(a), m.tables[a].not())
+	return m.check(m.space.Not(a), m.tables[a].Not())
 }
 
 // P10.1, P10.2, P10.3: filters of a grid, and what is laid of them.
@@ -113,7 +114,7 @@ func TestDiagramsOfFilters(t *testing.T) {
 	for n := range 150 {
 		var lists [][]masks
 		for range 1 + n%3 {
-			lists = append(lists, d.some(4))
+			lists = append(lists, d.Some(4))
 		}
 		m := newModel(t, lists...)
 		diagrams := []int{0, 1}
@@ -121,10 +122,10 @@ func TestDiagramsOfFilters(t *testing.T) {
 			diagrams = append(diagrams, m.of(list))
 		}
 		for range 3 {
-			diagrams = append(diagrams, m.of(d.some(2)))
+			diagrams = append(diagrams, m.of(d.Some(2)))
 		}
 		for range 12 {
-			a, b := diagrams[d.roll(len(diagrams))], diagrams[d.roll(len(diagrams))]
+			a, b := diagrams[d.Roll(len(diagrams))], diagrams[d.Roll(len(diagrams))]
 			both, either, not := m.and(a, b), m.or(a, b), m.not(a)
 			if m.and(b, a) != both || m.or(b, a) != either || m.not(not) != a {
 				t.Fatalf("of %d and %d: not the same the other way round", a, b)
@@ -139,28 +140,28 @@ func TestDiagramsOfFilters(t *testing.T) {
 
 // P10.1: each pair of sets, of which the one lays the grid: whether the other one cuts a cell, and its diagram.
 func TestOfEachSet(t *testing.T) {
-	for mask := 1; mask <= allPieces; mask++ {
-		for other := 1; other <= allPieces; other++ {
+	for mask := 1; mask <= pieces.Each; mask++ {
+		for other := 1; other <= pieces.Each; other++ {
 			attr := (mask + other) % api.Attrs
 			grid, list := fullMasks(), fullMasks()
 			grid[attr], list[attr] = mask, other
-			s := diagram.New(filterOf([]masks{grid}))
-			a := s.Of(filterOf([]masks{list}))
+			s := diagram.New(pieces.Filter([]masks{grid}))
+			a := s.Of(pieces.Filter([]masks{list}))
 			want := 2
 			if cuts([]masks{list}, []masks{grid}) {
 				want = 0
-			} else if other == allPieces {
+			} else if other == pieces.Each {
 				want = 1
 			}
 			if a != want {
-				t.Fatalf("%v of a grid of %v: the diagram %d, not %d", setOf(other), setOf(mask), a, want)
+				t.Fatalf("%v of a grid of %v: the diagram %d, not %d", pieces.SetOf(other), pieces.SetOf(mask), a, want)
 			}
-			for piece := range pieces {
-				for _, v := range valuesOf(piece) {
+			for piece := range pieces.Count {
+				for _, v := range pieces.ValuesOf(piece) {
 					var e api.Event
 					e[attr] = v
 					if s.Has(a, e) != (want > 0 && other>>piece&1 == 1) {
-						t.Fatalf("%v of a grid of %v: Has(%v): %v", setOf(other), setOf(mask), e, s.Has(a, e))
+						t.Fatalf("%v of a grid of %v: Has(%v): %v", pieces.SetOf(other), pieces.SetOf(mask), e, s.Has(a, e))
 					}
 				}
 			}
@@ -168,19 +169,19 @@ func TestOfEachSet(t *testing.T) {
 	}
 }
 
-func fullMasks() masks { return masks{allPieces, allPieces, allPieces, allPieces} }
+func fullMasks() masks { return masks{pieces.Each, pieces.Each, pieces.Each, pieces.Each} }
 
 // P10.2: each number up to the last node's is a diagram, and no two are the same.
 func TestEachNumberIsADiagram(t *testing.T) {
 	d := dice(7)
 	for range 20 {
-		lists := [][]masks{d.some(4), d.some(4)}
+		lists := [][]masks{d.Some(4), d.Some(4)}
 		m := newModel(t, lists...)
 		m.not(m.and(m.of(lists[0]), m.not(m.of(lists[1]))))
 		seen := map[table]bool{}
 		for a := range m.space.Nodes() + 2 {
-			got := tableOf(func(row int) bool { return m.space.Has(a, eventOf(row)) })
-			if seen[got] || len(got.nodes()) != m.space.Size(a) {
+			got := pieces.TableOf(func(row int) bool { return m.space.Has(a, pieces.Event(row)) })
+			if seen[got] || len(got.Nodes()) != m.space.Size(a) {
 				t.Fatalf("the diagram %d: its size %d, its events those of another one: %v", a, m.space.Size(a), seen[got])
 			}
 			seen[got] = true

@@ -6,38 +6,12 @@ import (
 
 	"arbour/api"
 	"arbour/diagram"
+	"arbour/pieces"
 )
-
-func wrongFilters() []api.Filter {
-	seven := make([]api.Range, 0, 7)
-	for i := range 7 {
-		seven = append(seven, r(i*2, i*2))
-	}
-	out := []api.Filter{
-		{{}}, {with(0, api.Set{})}, {with(3, api.Set{}), all()}, {all(), all()}, {all(), with(2, ints(r(1, 5)))}, {with(2, ints(r(1, 5))), all()},
-		{with(1, ints(r(1, 5))), with(1, ints(r(2, 3)))}, {with(1, ints(r(1, 5))), with(1, ints(r(1, 5)))}, apart(5), apart(100),
-	}
-	for _, s := range []api.Set{
-		ints(r(2, 1)), ints(r(5, 6), r(1, 2)), ints(r(1, 2), r(3, 4)), ints(r(1, 5), r(2, 3)), ints(seven...),
-		strs("b", "a"), strs("a", "a"), strs("123456789"), others("b", "a"), others("123456789"), strs("1", "2", "3", "4", "5", "6", "7"),
-	} {
-		for attr := range api.Attrs {
-			out = append(out, api.Filter{with(attr, s)}, api.Filter{with((attr+1)%api.Attrs, ints(r(1, 5))), with(attr, s)})
-		}
-	}
-	return out
-}
-
-func wrongValues() []api.Value {
-	return []api.Value{
-		{N: 1}, {S: "x"}, {Kind: api.Int, N: 1, S: "x"}, {Kind: api.Str, N: 1, S: "x"},
-		str("123456789"), {Kind: 3}, {Kind: -1}, {Kind: math.MaxInt}, {Kind: math.MinInt},
-	}
-}
 
 // P10.1: of a filter that isn't right, 0, and no node.
 func TestOfWrongFilters(t *testing.T) {
-	for i, f := range wrongFilters() {
+	for i, f := range pieces.WrongFilters() {
 		s := diagram.New(f)
 		if a := s.Of(f); a != 0 || s.Nodes() != 0 || s.Asked() != 1 {
 			t.Errorf("%d: Of(%v): %d, %d nodes, asked %d", i, f, a, s.Nodes(), s.Asked())
@@ -47,7 +21,7 @@ func TestOfWrongFilters(t *testing.T) {
 
 // P10.1: of numbers that are no diagrams, 0; but it was asked.
 func TestNumbersThatAreNoDiagrams(t *testing.T) {
-	f, g := api.Filter{with(0, ints(r(1, 5)))}, fullFilter()
+	f, g := api.Filter{with(0, ints(r(1, 5)))}, pieces.Full(0)
 	s := diagram.New(f, g)
 	a, asked := 1, 0
 	for n := range 3 {
@@ -87,7 +61,7 @@ func TestHasOfWrongEvents(t *testing.T) {
 		diagrams = append(diagrams, a, s.Not(a))
 	}
 	for _, a := range diagrams {
-		for _, v := range wrongValues() {
+		for _, v := range pieces.WrongValues() {
 			for attr := range api.Attrs {
 				e := api.Event{str("a"), str("a"), str("a"), str("a")}
 				if e[attr] = v; s.Has(a, e) {
